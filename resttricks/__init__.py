@@ -1,0 +1,1 @@
+"""Resttricks: figures trimmed and added, and what they tell of rests."""

@@ -1,0 +1,44 @@
+"""Which integers stand for bases, numbers and the like, and the errors for all other values."""
+
+from resttricks.errors import BadBase, BadDivisor, BadNumber, BadTake
+
+GREATEST_NUMBER = 10 ** 40
+LEAST_BASE = 2
+GREATEST_BASE = 16
+GREATEST_TAKE = 2
+GREATEST_DIVISOR = 100
+
+
+def is_integer(told, low, high):
+    """Whether it is an integer from low to high."""
+    # For Python, True and False are integers; the document excludes them.
+    return isinstance(told, int) and not isinstance(told, bool) and low <= told <= high
+
+
+def check_base(base):
+    """Raise BadBase for anything but an integer from 2 to 16."""
+    if not is_integer(base, LEAST_BASE, GREATEST_BASE):
+        raise BadBase("no integer from 2 to 16")
+
+
+def check_take(take):
+    """Raise BadTake for anything but 1 and 2."""
+    if not is_integer(take, 1, GREATEST_TAKE):
+        raise BadTake("neither 1 nor 2")
+
+
+def check_divisor(d):
+    """Raise BadDivisor for anything but an integer from 1 to 100."""
+    if not is_integer(d, 1, GREATEST_DIVISOR):
+        raise BadDivisor("no integer from 1 to 100")
+
+
+def check_stretch(n, low, high):
+    """Raise BadNumber(n) for anything but an integer from low to high."""
+    if not is_integer(n, low, high):
+        raise BadNumber(n)
+
+
+def check_number(n):
+    """Raise BadNumber(n) for anything but a number."""
+    check_stretch(n, -GREATEST_NUMBER, GREATEST_NUMBER)
