@@ -1,7 +1,7 @@
 """Numbers and their figures (point 2)."""
 
 from resttricks.errors import BadFigures
-from resttricks.limits import GREATEST_NUMBER, check_base, check_stretch, is_integer
+from resttricks.limits import GREATEST_NUMBER, check_base, check_stretch, first_wrong, is_tuple
 
 MOST_FIGURES = 150
 
@@ -21,20 +21,20 @@ def figures(n, base):
 def number(told, base):
     """The integer with these figures; noughts ahead are allowed."""
     check_base(base)
-    check_figures(told, base)
+    check_figures(told, base, 1)
     n = 0
     for figure in told:
         n = n * base + figure
     return n
 
 
-def check_figures(told, base):
-    """Raise BadFigures for anything but a tuple of 1 to 150 figures in the base."""
-    if not isinstance(told, tuple) or not 1 <= len(told) <= MOST_FIGURES:
+def check_figures(told, base, fewest):
+    """Raise BadFigures for anything but a tuple of fewest to 150 figures in the base."""
+    if not is_tuple(told, fewest, MOST_FIGURES):
         raise BadFigures(None)
-    for index, figure in enumerate(told):
-        if not is_integer(figure, 0, base - 1):
-            raise BadFigures(index)
+    index = first_wrong(told, 0, base - 1)
+    if index is not None:
+        raise BadFigures(index)
 
 
 def block_of(base, take):

@@ -15,6 +15,19 @@ def is_integer(told, low, high):
     return isinstance(told, int) and not isinstance(told, bool) and low <= told <= high
 
 
+def is_tuple(told, fewest, most):
+    """Whether it is a tuple of fewest to most things."""
+    return isinstance(told, tuple) and fewest <= len(told) <= most
+
+
+def first_wrong(told, low, high):
+    """The index of the first thing that is no integer from low to high; None if all are."""
+    for index, thing in enumerate(told):
+        if not is_integer(thing, low, high):
+            return index
+    return None
+
+
 def check_base(base):
     """Raise BadBase for anything but an integer from 2 to 16."""
     if not is_integer(base, LEAST_BASE, GREATEST_BASE):
@@ -27,10 +40,10 @@ def check_take(take):
         raise BadTake("neither 1 nor 2")
 
 
-def check_divisor(d):
-    """Raise BadDivisor for anything but an integer from 1 to 100."""
-    if not is_integer(d, 1, GREATEST_DIVISOR):
-        raise BadDivisor("no integer from 1 to 100")
+def check_divisor(d, greatest=GREATEST_DIVISOR):
+    """Raise BadDivisor for anything but an integer from 1 to greatest."""
+    if not is_integer(d, 1, greatest):
+        raise BadDivisor(f"no integer from 1 to {greatest}")
 
 
 def check_stretch(n, low, high):

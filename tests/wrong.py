@@ -16,7 +16,9 @@ WRONG_TAKES = NO_INTEGERS + (0, 3, -1, HUGE)
 WRONG_TIMES = NO_INTEGERS + (101, -101, HUGE, -HUGE)
 WRONG_NUMBERS = NO_INTEGERS + (GREATEST + 1, -GREATEST - 1, HUGE, -HUGE)
 WRONG_DIVISORS = NO_INTEGERS + (0, 101, -1, HUGE, -HUGE)
+WRONG_SMALL_DIVISORS = NO_INTEGERS + (0, 31, 100, -1, HUGE, -HUGE)
 WRONG_TRICKS = NO_INTEGERS + (10, HUGE, (10, 1, -2), [10, 1, -2], "base 10 take 1 times -2")
+NO_TUPLES = (None, True, False, 0, 1, HUGE, "", "10", [], [1], [0, 1], {}, {0: 1}, {"a": [None]})
 
 
 class Case(unittest.TestCase):
