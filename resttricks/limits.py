@@ -20,6 +20,16 @@ def is_tuple(told, fewest, most):
     return isinstance(told, tuple) and fewest <= len(told) <= most
 
 
+def is_list_or_tuple(told, fewest, most):
+    """Whether it is a list or tuple of fewest to most things."""
+    return isinstance(told, (list, tuple)) and fewest <= len(told) <= most
+
+
+def is_number(told):
+    """Whether it is a number."""
+    return is_integer(told, -GREATEST_NUMBER, GREATEST_NUMBER)
+
+
 def first_wrong(told, low, high):
     """The index of the first thing that is no integer from low to high; None if all are."""
     for index, thing in enumerate(told):
@@ -54,4 +64,5 @@ def check_stretch(n, low, high):
 
 def check_number(n):
     """Raise BadNumber(n) for anything but a number."""
-    check_stretch(n, -GREATEST_NUMBER, GREATEST_NUMBER)
+    if not is_number(n):
+        raise BadNumber(n)

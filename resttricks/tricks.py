@@ -85,5 +85,9 @@ def trick_block(trick):
 
 def made_of(trick, n):
     """What the trick makes of an integer of any size."""
-    block = trick_block(trick)
-    return n // block + trick.times * (n % block)
+    return made_with(trick_block(trick), trick.times, n)
+
+
+def made_with(block, times, n):
+    """What a trick of this block, with these times, makes of an integer of any size."""
+    return n // block + times * (n % block)

@@ -19,6 +19,8 @@ WRONG_DIVISORS = NO_INTEGERS + (0, 101, -1, HUGE, -HUGE)
 WRONG_SMALL_DIVISORS = NO_INTEGERS + (0, 31, 100, -1, HUGE, -HUGE)
 WRONG_TRICKS = NO_INTEGERS + (10, HUGE, (10, 1, -2), [10, 1, -2], "base 10 take 1 times -2")
 NO_TUPLES = (None, True, False, 0, 1, HUGE, "", "10", [], [1], [0, 1], {}, {0: 1}, {"a": [None]})
+# Nothing that is a list or tuple of one thing at least.
+NO_ROWS = (None, True, False, 0, 1, HUGE, "", "10", {}, {0: 1}, {"a": [None]}, (), [])
 
 
 class Case(unittest.TestCase):
